@@ -1,0 +1,1 @@
+"""Nets of resistors and sources solved exactly."""

@@ -1,0 +1,5 @@
+"""The numbers with which a call is refused."""
+
+WRONG_NUMBER = -1
+NO_ROOM = -2
+NO_NET = -4
