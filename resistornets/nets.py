@@ -1,6 +1,7 @@
 """The calls on one net, one behind another, and their answers."""
 
 from resistornets.joining import has_one_solution
+from resistornets.measuring import amperes_answer, between_answer, volts_answer, watts_answer
 from resistornets.refusals import NO_NET, WRONG_NUMBER
 from resistornets.wiring import Net, is_node_count
 
@@ -9,8 +10,11 @@ NODES = 1
 PART = 2
 CHANGE = 3
 SOLVE = 4
+VOLTS = 5
+AMPERES = 6
+WATTS = 7
 
-# By call, from begin to between: how many numbers stand behind the call's own.
+# By call: how many numbers stand behind the call's own.
 NUMBERS_BEHIND = (0, 1, 4, 2, 0, 1, 1, 1, 2)
 
 
@@ -41,7 +45,16 @@ class Line:
             return [self.net.change_part(numbers[0], numbers[1])]
         if call == SOLVE:
             return [1 if has_one_solution(self.net) else 0]
-        raise NotImplementedError("volts, amperes, watts and between are not built yet")
+        return self.measure(call, numbers)
+
+    def measure(self, call, numbers):
+        if call == VOLTS:
+            return volts_answer(self.net, numbers[0])
+        if call == AMPERES:
+            return amperes_answer(self.net, numbers[0])
+        if call == WATTS:
+            return watts_answer(self.net, numbers[0])
+        return between_answer(self.net, numbers[0], numbers[1])
 
 
 def answers(calls):

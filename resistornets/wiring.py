@@ -4,6 +4,7 @@ from resistornets.refusals import NO_ROOM, WRONG_NUMBER
 
 RESISTOR = 0
 SOURCE_OF_VOLTS = 1
+SOURCE_OF_AMPERES = 2
 
 # By kind: a resistor of 0 ohms or fewer isn't one, a source may drive either way.
 LEAST_MUCH = (1, -1000000, -1000000)

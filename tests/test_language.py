@@ -108,6 +108,45 @@ class Language(unittest.TestCase):
                 if isinstance(node, ast.Attribute):
                     self.assertIn(node.attr, own + METHODS)
 
+    def test_names_are_drawn_from_the_file_that_defines_them(self):
+        for text, tree in self.each():
+            for node in ast.walk(tree):
+                if isinstance(node, ast.ImportFrom):
+                    source = ast.parse((PACKAGE / (node.module.split(".")[1] + ".py")).read_text(encoding="utf-8"))
+                    top = [row for row in source.body if not isinstance(row, ast.ImportFrom)]
+                    defined = [row.name for row in top if isinstance(row, (ast.FunctionDef, ast.ClassDef))]
+                    defined += [row.targets[0].id for row in top if isinstance(row, ast.Assign)]
+                    for drawn in node.names:
+                        self.assertIn(drawn.name, defined)
+
+    def test_no_two_files_draw_from_one_another(self):
+        draws = {}
+        for path in FILES:
+            rows = ast.parse(path.read_text(encoding="utf-8")).body
+            draws[path.stem] = {row.module.split(".")[1] for row in rows if isinstance(row, ast.ImportFrom)}
+        while draws:
+            free = [name for name in draws if not draws[name] & set(draws)]
+            self.assertNotEqual(free, [], draws)
+            for name in free:
+                del draws[name]
+
+    def test_one_target_that_is_a_name_an_index_or_a_value(self):
+        for text, tree in self.each():
+            for node in ast.walk(tree):
+                if isinstance(node, ast.Assign):
+                    self.assertEqual(len(node.targets), 1)
+                    self.assertIsInstance(node.targets[0], (ast.Name, ast.Subscript, ast.Attribute))
+
+    def test_no_name_is_a_method_and_a_value(self):
+        methods, values = set(), set()
+        for text, tree in self.each():
+            for node in ast.walk(tree):
+                if isinstance(node, ast.ClassDef):
+                    methods |= {row.name for row in node.body if isinstance(row, ast.FunctionDef)}
+                if isinstance(node, ast.Attribute) and isinstance(node.ctx, ast.Store):
+                    values.add(node.attr)
+        self.assertEqual(methods & values, set())
+
     def test_words_that_stand_nowhere(self):
         for text, tree in self.each():
             self.assertEqual([word for word in re.findall(r"\w+", text) if word in NOT_WORDS], [])
